@@ -1,0 +1,1 @@
+"""Clubroll: who is in which club."""
