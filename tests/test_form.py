@@ -36,6 +36,11 @@ WORDS = re.compile(
     r"\b(type|typing|typing_extensions|enum|Enum|IntEnum|StrEnum|Flag|IntFlag|Generic|Protocol|ABC|ABCMeta"
     r"|namedtuple|NamedTuple|TypedDict|TYPE_CHECKING|abstractmethod)\b|dataclass|overload|contextmanager"
 )
+CALLED = set(
+    "append clear copy count endswith extend find get index insert isalnum isalpha isdigit islower isspace isupper "
+    "items join keys ljust lower lstrip partition pop remove replace reverse rfind rjust rpartition rsplit rstrip "
+    "setdefault split splitlines startswith strip update upper values zfill bit_length".split()
+)
 METHODS = ("__init__", "__eq__", "__repr__", "__str__", "__len__")
 
 
@@ -57,6 +62,21 @@ def bound_names(node):
     if isinstance(node, ast.Name) and isinstance(node.ctx, ast.Store):
         return [node.id]
     return []
+
+
+def called(node):
+    return node.func.id if isinstance(node, ast.Call) and isinstance(node.func, ast.Name) else None
+
+
+def sets_used_in(node):
+    """The sets that stand straight within this part of the code, made by a call or of two others."""
+    return [part for part in ast.iter_child_nodes(node) if is_set(part)]
+
+
+def is_set(node):
+    if isinstance(node, ast.BinOp):
+        return is_set(node.left) or is_set(node.right)
+    return called(node) in ("set", "frozenset")
 
 
 class Files(unittest.TestCase):
@@ -98,7 +118,23 @@ class Code(unittest.TestCase):
                 with self.subTest(where=where):
                     self.assertEqual(node.level, 0)
                     self.assertTrue(node.module.startswith("clubroll."))
-                    self.assertNotIn("*", [drawn.name for drawn in node.names])
+                    source = PACKAGE.parent.joinpath(*node.module.split(".")).with_suffix(".py")
+                    defined = [name for made in ast.parse(source.read_text("utf-8")).body for name in bound_names(made)]
+                    for drawn in node.names:
+                        self.assertIn(drawn.name, defined)
+
+    def test_only_the_listed_methods(self):
+        for where, node in nodes():
+            if isinstance(node, ast.Attribute):
+                with self.subTest(where=where):
+                    self.assertIn(node.attr, CALLED)
+
+    def test_a_set_is_neither_kept_nor_walked(self):
+        for where, node in nodes():
+            for made in sets_used_in(node):
+                with self.subTest(where=where):
+                    self.assertTrue(isinstance(node, (ast.Compare, ast.BinOp)) or called(node) in ("sorted", "len"))
+                    self.assertEqual(getattr(node, "keywords", []), [])
 
     def test_only_the_listed_names_of_python(self):
         for where, node in nodes():

@@ -4,6 +4,7 @@ import itertools
 import unittest
 
 from clubroll.rolls import is_roll, rolled
+from samples import comes_ahead, lists_over, names_over
 
 ROLLS = (
     [],
@@ -47,29 +48,6 @@ NO_ROLLS = (
     (["b", "aaa"], ["aaa", "b"]),
     (["zz", "b", "aaa", "an", "b", "a"], ["a", "aaa", "an", "b", "zz"]),
 )
-
-
-def comes_ahead(one, other):
-    """The order of point 1, letter by letter, by the letters' places from a to z alone."""
-    letters = "abcdefghijklmnopqrstuvwxyz"
-    for left, right in zip(one, other):
-        if left != right:
-            return letters.index(left) < letters.index(right)
-    return len(one) < len(other)
-
-
-def names_over(letters, longest):
-    return [
-        "".join(signs)
-        for length in range(1, longest + 1)
-        for signs in itertools.product(letters, repeat=length)
-    ]
-
-
-def lists_over(names, longest):
-    for length in range(longest + 1):
-        for chosen in itertools.product(names, repeat=length):
-            yield list(chosen)
 
 
 class Order(unittest.TestCase):
